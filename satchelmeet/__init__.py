@@ -1,0 +1,1 @@
+"""Satchelmeet: letters carried by those who meet at told times."""

@@ -1,0 +1,16 @@
+"""Whole numbers and times, told apart from all else."""
+
+LAST_TIME = 10 ** 9
+
+
+def is_whole(thing):
+    # Python counts truths among the ints; here they are none.
+    return isinstance(thing, int) and not isinstance(thing, bool)
+
+
+def is_within(thing, least, most):
+    return is_whole(thing) and least <= thing <= most
+
+
+def is_time(thing):
+    return is_within(thing, 0, LAST_TIME)
