@@ -1,7 +1,7 @@
 """Books: who walks, with how large a bag, and who meets whom, when."""
 
 from satchelmeet.errors import NoBook
-from satchelmeet.wholes import LAST_TIME, is_within
+from satchelmeet.wholes import LAST_TIME, is_whole, is_within
 
 MOST_WALKERS = 12
 MOST_ROOM = 99
@@ -57,9 +57,39 @@ def is_meeting_number(book, thing):
     return is_within(thing, 0, len(book[1]) - 1)
 
 
+def is_walker(book, thing):
+    return is_within(thing, 0, len(book[0]) - 1)
+
+
 def meetings_of(book, walker):
     return [number for number, meeting in enumerate(book[1]) if walker in meeting[:2]]
 
 
 def by_time(book, time):
     return len([meeting for meeting in book[1] if meeting[2] <= time])
+
+
+def ways(book):
+    """Each meeting twice, as (number, giver, other, when), in the order of the meetings."""
+    told = []
+    for number, (one, other, when, many) in enumerate(book[1]):
+        told.append((number, one, other, when))
+        told.append((number, other, one, when))
+    return told
+
+
+def other_at(book, number, walker):
+    one, other, when, many = book[1][number]
+    return other if walker == one else one
+
+
+def lone_row(book, walker, number):
+    """A row with a number for one walker and None for all others."""
+    return [number if other == walker else None for other in range(len(book[0]))]
+
+
+def is_row(book, thing):
+    """Whether it is a list with a whole number or None for each walker."""
+    if not isinstance(thing, list) or len(thing) != len(book[0]):
+        return False
+    return all([number is None or is_whole(number) for number in thing])

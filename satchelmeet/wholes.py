@@ -1,4 +1,4 @@
-"""Whole numbers and times, told apart from all else."""
+"""Whole numbers and times, and how numbers compare that may be None."""
 
 LAST_TIME = 10 ** 9
 
@@ -14,3 +14,15 @@ def is_within(thing, least, most):
 
 def is_time(thing):
     return is_within(thing, 0, LAST_TIME)
+
+
+def is_below(number, bound):
+    return number is not None and number < bound
+
+
+def is_upto(number, bound):
+    return number is not None and number <= bound
+
+
+def is_from(number, bound):
+    return number is not None and number >= bound

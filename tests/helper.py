@@ -1,5 +1,6 @@
-"""What several test files share: books made by chance from a seed, and odd things."""
+"""What several test files share: books made by chance from a seed, odd things, and chains found the slow way."""
 
+import itertools
 import random
 
 from satchelmeet.books import made_book
@@ -7,7 +8,7 @@ from satchelmeet.books import made_book
 TOP = 10 ** 9
 
 # Of each kind something that is no whole number.
-NO_WHOLES = [True, False, None, "", "1", b"1", [], [1], (), (1,), {}, {1: 1}, set(), object(), int]
+NO_WHOLES = [True, False, None, "", "1", b"1", [], [1], (), (1,), {}, {1: 1}, set(), len, int]
 
 
 def some_meetings(chance, walkers, most, times):
@@ -35,3 +36,63 @@ def some_books(seed, many, walkers, meetings, times):
         rooms = [chance.randint(0, 99) for walker in range(size)]
         books.append(made_book(rooms, some_meetings(chance, size, chance.randint(0, meetings), times)))
     return books
+
+
+def some_letters(seed, book, many, times):
+    """Letters of a book, their times from 0 to so much."""
+    chance = random.Random(seed)
+    walkers = range(len(book[0]))
+    letters = []
+    for trial in range(many):
+        since, last = chance.randint(0, times), chance.randint(0, times)
+        letters.append((chance.choice(walkers), since, chance.choice(walkers), last))
+    return letters
+
+
+def follow(book, letter, numbers):
+    """Word by word as told: who has the letter at last, and since when; None where it is given by none."""
+    holder, time = letter[0], letter[1]
+    for number in numbers:
+        one, other, when, many = book[1][number]
+        if holder not in (one, other) or time >= when:
+            return None
+        holder, time = {one: other, other: one}[holder], when
+    return holder, time
+
+
+def all_chains(book, letter):
+    """All chains of a letter, by a walk through all rows of meetings: for small books only."""
+    found = []
+    numbers = range(len(book[1]))
+    for size in range(len(book[1]) + 1):
+        for row in itertools.combinations(numbers, size):
+            end = follow(book, letter, row)
+            if end is not None and end[0] == letter[2] and end[1] <= letter[3]:
+                found.append(list(row))
+    return found
+
+
+def end_of(book, letter, chain):
+    return follow(book, letter, chain)[1]
+
+
+def full_books(seed, many):
+    """Books of twelve walkers and sixty meetings, many of them at one time."""
+    chance = random.Random(seed)
+    books = []
+    while len(books) < many:
+        meetings = some_meetings(chance, 12, 200, chance.choice([12, 20, 60, TOP]))[:60]
+        if len(meetings) == 60:
+            books.append(made_book([chance.randint(0, 99) for walker in range(12)], meetings))
+    return books
+
+
+def odd_rows(row):
+    """What is near a list of wholes and Nones, but none for as many walkers."""
+    odd = [tuple(row), row + [None], row + [0], row[:-1], {place: row[place] for place in range(len(row))}, str(row)]
+    odd += [thing for thing in NO_WHOLES if thing != [1]] + [0, 5, -1, 10 ** 30]
+    for place in range(len(row)):
+        for thing in NO_WHOLES:
+            if thing is not None:
+                odd.append(row[:place] + [thing] + row[place + 1:])
+    return odd
