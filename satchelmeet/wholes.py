@@ -26,3 +26,12 @@ def is_upto(number, bound):
 
 def is_from(number, bound):
     return number is not None and number >= bound
+
+
+def is_count(thing):
+    return is_whole(thing) and thing >= 0
+
+
+def are_counts(thing, size):
+    """Whether it is a list of so many whole numbers from 0 on."""
+    return isinstance(thing, list) and len(thing) == size and all([is_count(number) for number in thing])

@@ -96,3 +96,55 @@ def odd_rows(row):
             if thing is not None:
                 odd.append(row[:place] + [thing] + row[place + 1:])
     return odd
+
+
+def some_parts(chance, book, times, most, many):
+    """Loads or wants: up to so many, with times and manys up to so much."""
+    walkers = range(len(book[0]))
+    size = chance.randint(0, most)
+    return [(chance.choice(walkers), chance.randint(0, times), chance.randint(1, many)) for part in range(size)]
+
+
+def small_sacks(seed, many):
+    """Small books with small rooms and manys, each with a few loads and wants."""
+    chance = random.Random(seed)
+    told = []
+    for rooms, meetings in some_books(seed, many, 4, 6, 6):
+        rooms = [chance.choice([0, 1, 2, 3, 99]) for room in rooms]
+        meetings = [row[:3] + (chance.choice([1, 1, 2, 3, 99]),) for row in meetings]
+        book = made_book(rooms, meetings)
+        told.append((book, some_parts(chance, book, 6, 3, 4), some_parts(chance, book, 6, 3, 4)))
+    return told
+
+
+def variants(thing, change):
+    """All that comes of a thing of lists and tuples when one part of it, or it itself, is changed."""
+    told = list(change(thing))
+    if isinstance(thing, (list, tuple)):
+        kind = type(thing)
+        for place, part in enumerate(thing):
+            for changed in variants(part, change):
+                told.append(kind(list(thing[:place]) + [changed] + list(thing[place + 1:])))
+    return told
+
+
+def other_kinds(part):
+    """What is of another kind than the part, or, of a list or tuple, one part less or more."""
+    told = [None, "", "1", b"1", {}, {0: 0}, set(), len, int, object()]
+    if isinstance(part, list):
+        told += [tuple(part), dict(enumerate(part)), str(part), True, 0, part[:-1] if part else 0, part + part[:1] + [None]]
+        told += [part + part[-1:]] if part else []
+    elif isinstance(part, tuple):
+        told += [list(part), dict(enumerate(part)), str(part), True, 0, part[:-1], part + part[:1], ()]
+    elif isinstance(part, bool):
+        told += [int(part), str(part), [part], (part,), 2, -1]
+    else:
+        told += [True, False, str(part), [part], (part,), [], ()]
+    return told
+
+
+def other_numbers(part):
+    """Of a whole number, some beside it; of all else nothing."""
+    if isinstance(part, bool) or not isinstance(part, int):
+        return []
+    return [part - 1, part + 1, -1, 0, 1, 2, 3, 4, -10 ** 30, 10 ** 30]

@@ -176,6 +176,42 @@ class Rules(unittest.TestCase):
                     if isinstance(node, ast.Call) and isinstance(node.func, ast.Attribute):
                         self.assertIn(node.func.attr, known)
 
+    def test_classes(self):
+        assigned, read = set(), set()
+        for path, text, tree in parsed():
+            for node in ast.walk(tree):
+                if isinstance(node, ast.Attribute):
+                    (assigned if isinstance(node.ctx, ast.Store) else read).add(node.attr)
+                if isinstance(node, ast.ClassDef):
+                    with self.subTest(node.name):
+                        self.assertIn(node, tree.body)
+                        self.assertLessEqual(len(node.bases), 1)
+                        self.assertEqual(node.keywords + node.decorator_list, [])
+                        names = [part.name for part in node.body if isinstance(part, ast.FunctionDef)]
+                        self.assertEqual(len(names), len(set(names)))
+                        for part in node.body:
+                            text_alone = isinstance(part, ast.Expr) and isinstance(part.value, ast.Constant)
+                            self.assertTrue(isinstance(part, ast.FunctionDef) or text_alone)
+        builtin_names = {name for kind in (str, int, list, dict, set, bytes, tuple) for name in dir(kind)}
+        free = set("add discard append clear copy count extend find get index insert pop remove update".split())
+        self.assertEqual(assigned & set(own_methods()), set())
+        self.assertEqual(assigned & builtin_names, set())
+        self.assertEqual({name for name in own_methods() if name[0] != "_"} & builtin_names - free, set())
+        self.assertEqual(read - assigned - set(own_methods()) - set(METHODS), set())
+
+    def test_raises(self):
+        for path, text, tree in parsed():
+            with self.subTest(path.name):
+                for node in ast.walk(tree):
+                    if isinstance(node, ast.Raise):
+                        self.assertIsInstance(node.exc, ast.Call)
+                        self.assertIsInstance(node.exc.func, ast.Name)
+                    if isinstance(node, ast.ExceptHandler):
+                        names = node.type.elts if isinstance(node.type, ast.Tuple) else [node.type]
+                        for name in names:
+                            self.assertIsInstance(name, ast.Name)
+                            self.assertNotIn(name.id, ["Exception", "TypeError", "ValueError", "BaseException"])
+
     def test_is(self):
         for path, text, tree in parsed():
             with self.subTest(path.name):
