@@ -42,12 +42,13 @@ class Stream:
         # The points come to first are left first, so each way has as few arcs as any: else there could be far
         # too many steps.
         while place < len(points) and goal not in came:
-            for arc in self.arcs[points[place]]:
+            point = points[place]
+            place += 1
+            for arc in self.arcs[point]:
                 end = self.ends[arc]
                 if self.spare[arc] > 0 and end not in came:
                     came[end] = arc
                     points.append(end)
-            place += 1
         return came
 
     def sent_along(self, came, goal):

@@ -212,6 +212,45 @@ class Rules(unittest.TestCase):
                             self.assertIsInstance(name, ast.Name)
                             self.assertNotIn(name.id, ["Exception", "TypeError", "ValueError", "BaseException"])
 
+    def test_iterated_on_the_spot(self):
+        takers = "list tuple dict sorted sum any all enumerate zip bytes min max".split()
+        for path, text, tree in parsed():
+            with self.subTest(path.name):
+                spots = []
+                for node in ast.walk(tree):
+                    if isinstance(node, (ast.For, ast.comprehension)):
+                        spots.append(node.iter)
+                    if isinstance(node, ast.Call) and isinstance(node.func, ast.Name):
+                        if node.func.id in takers:
+                            spots += node.args if node.func.id == "zip" else node.args[:1]
+                        if node.func.id == "reversed" and ast.unparse(node.args[0]).startswith("range("):
+                            spots.append(node.args[0])
+                for node in ast.walk(tree):
+                    if isinstance(node, ast.Call) and node not in spots:
+                        name = node.func.attr if isinstance(node.func, ast.Attribute) else node.func.id
+                        self.assertNotIn(name, "zip enumerate reversed range items keys values".split(), node.lineno)
+
+    def test_sets(self):
+        for path, text, tree in parsed():
+            for function in ast.walk(tree):
+                if isinstance(function, ast.FunctionDef):
+                    with self.subTest(path.name + " " + function.name):
+                        self.look_at_sets(function)
+
+    def look_at_sets(self, function):
+        right = []
+        for node in ast.walk(function):
+            if isinstance(node, ast.Assign) and isinstance(node.targets[0], ast.Name):
+                right.append(node.value)
+            if isinstance(node, ast.Compare):
+                right += node.comparators + [node.left]
+            if isinstance(node, ast.Call) and isinstance(node.func, ast.Name) and node.func.id in ("sorted", "len"):
+                right += node.args
+        for node in ast.walk(function):
+            written = isinstance(node, ast.Call) and isinstance(node.func, ast.Name) and node.func.id in ("set", "frozenset")
+            if written or isinstance(node, (ast.Set, ast.SetComp)):
+                self.assertIn(node, right)
+
     def test_is(self):
         for path, text, tree in parsed():
             with self.subTest(path.name):
