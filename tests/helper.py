@@ -148,3 +148,60 @@ def other_numbers(part):
     if isinstance(part, bool) or not isinstance(part, int):
         return []
     return [part - 1, part + 1, -1, 0, 1, 2, 3, 4, -10 ** 30, 10 ** 30]
+
+
+def some_wishes(chance, book, times, most=4):
+    """One to so many wishes of unlike walkers."""
+    walkers = range(len(book[0]))
+    wished = chance.sample(walkers, chance.randint(1, min(most, len(walkers))))
+    return [(walker, chance.choice([chance.randint(0, times), times])) for walker in wished]
+
+
+def price_bounds(book, wishes, prices, stretch, walker, some):
+    """By the words, what a price must not be above: a dict, the name of each condition and its number."""
+    bounds = {}
+    if some == 0:
+        bounds["empty"] = 0
+    for number, (wished, last) in enumerate(wishes):
+        in_time = stretch <= len([meeting for meeting in book[1] if meeting[2] <= last])
+        if wished == walker and in_time and some // 2 ** number % 2 == 1:
+            bounds["wish", number] = prices[stretch][walker][some - 2 ** number]
+    if stretch < len(book[1]):
+        bounds["next"] = prices[stretch + 1][walker][some]
+        one, other, when, many = book[1][stretch]
+        if walker in (one, other):
+            taker = {one: other, other: one}[walker]
+            for part, rest in itertools.product(range(some + 1), repeat=2):
+                if part & rest == 0 and part | rest == some:
+                    price = 1 + prices[stretch + 1][walker][part] + prices[stretch + 1][taker][rest]
+                    bounds["give", walker == one, part, rest] = price
+    return bounds
+
+
+def some_prices(chance, book, wishes, most):
+    """Prices, each as great as the others let it be, and at most a number that is drawn for it."""
+    sets = range(2 ** len(wishes))
+    prices = [[[0 for some in sets] for room in book[0]] for stretch in range(len(book[1]) + 1)]
+    for stretch in reversed(range(len(prices))):
+        for walker in range(len(book[0])):
+            for some in sets:
+                drawn = chance.choice([most, most, most, chance.randint(0, most)])
+                bounds = price_bounds(book, wishes, prices, stretch, walker, some)
+                prices[stretch][walker][some] = min([drawn] + list(bounds.values()))
+    return prices
+
+
+def fewest_givings(book, sender, since, wishes):
+    """The least number of givings of a tree that serves, by all sets of walkers that can have it; or None."""
+    if any(walker == sender and last < since for walker, last in wishes):
+        return None
+    least = {frozenset([sender]): 0}
+    for one, other, when, many in book[1] + ((None, None, TOP + 1, 0),):
+        ahead = [walker for walker, last in wishes if last < when]
+        least = {has: cost for has, cost in least.items() if has.issuperset(ahead)}
+        if when > since:
+            for has, cost in list(least.items()):
+                if one in has or other in has:
+                    more = has | {one, other}
+                    least[more] = min(least.get(more, cost + 1), cost + 1)
+    return min(least.values(), default=None)
