@@ -53,6 +53,19 @@ def lesser_first(meeting):
     return (min(one, other), max(one, other), when, many)
 
 
+def is_book(thing):
+    """Whether it is a book as it is told."""
+    if not isinstance(thing, tuple) or len(thing) != 2:
+        return False
+    rooms, meetings = thing
+    if not isinstance(rooms, tuple) or not isinstance(meetings, tuple):
+        return False
+    try:
+        return made_book(list(rooms), list(meetings)) == thing
+    except NoBook:
+        return False
+
+
 def is_meeting_number(book, thing):
     return is_within(thing, 0, len(book[1]) - 1)
 

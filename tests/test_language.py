@@ -251,6 +251,20 @@ class Rules(unittest.TestCase):
             if written or isinstance(node, (ast.Set, ast.SetComp)):
                 self.assertIn(node, right)
 
+    def test_tables_are_only_read(self):
+        for path, text, tree in parsed():
+            tables = [node.targets[0].id for node in tree.body
+                      if isinstance(node, ast.Assign) and isinstance(node.value, (ast.Dict, ast.List))]
+            read = [node.value for node in ast.walk(tree) if isinstance(node, ast.Subscript) and isinstance(node.ctx, ast.Load)]
+            read += [node.value for node in ast.walk(tree) if isinstance(node, ast.Attribute) and node.attr == "get"]
+            for node in ast.walk(tree):
+                with self.subTest(path.name):
+                    if isinstance(node, ast.Name) and isinstance(node.ctx, ast.Load) and node.id in tables:
+                        self.assertIn(node, read)
+                    # What is in a table is called by a name of its own.
+                    if isinstance(node, ast.Call):
+                        self.assertIsInstance(node.func, (ast.Name, ast.Attribute))
+
     def test_is(self):
         for path, text, tree in parsed():
             with self.subTest(path.name):
